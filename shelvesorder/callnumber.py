@@ -1,4 +1,4 @@
-"""Call numbers: read from bytes into a tuple that compares as the order of call numbers asks.
+"""Call numbers: read from bytes into a tuple that compares as the order of call numbers asks, and written.
 
 The tuple: the class's letters, its number, the digits behind its full stop, the parts (each its letter
 and its digits), the year, the copy. Letters and digits are bytes, letters big; a year or a copy that
@@ -13,6 +13,7 @@ BIG_A = 65
 BIG_C = 67
 BIG_Z = 90
 SMALL_A = 97
+SMALL_C = 99
 SMALL_Z = 122
 
 MOST_BYTES = 60
@@ -23,6 +24,14 @@ MOST_PART_DIGITS = 5
 YEAR_DIGITS = 4
 COPY_DIGITS = 2
 LEAST_COPY = 2
+
+# Where each piece stands in the tuple.
+LETTERS = 0
+NUMBER = 1
+FRACTION = 2
+PARTS = 3
+YEAR = 4
+COPY = 5
 
 
 def is_digit(byte):
@@ -59,18 +68,18 @@ def number_of(digits):
     return number
 
 
-def words_of(code):
-    words = []
-    word = []
-    for byte in code:
-        if byte != BLANK:
-            word.append(byte)
-        elif len(word) > 0:
-            words.append(word)
-            word = []
-    if len(word) > 0:
-        words.append(word)
-    return words
+def pieces_between(row, mark):
+    pieces = []
+    piece = []
+    for byte in row:
+        if byte != mark:
+            piece.append(byte)
+        elif len(piece) > 0:
+            pieces.append(piece)
+            piece = []
+    if len(piece) > 0:
+        pieces.append(piece)
+    return pieces
 
 
 def count_letters(word):
@@ -134,7 +143,7 @@ def read_parts(words):
 def read_call_number(code):
     if len(code) > MOST_BYTES:
         return None
-    words = words_of(code)
+    words = pieces_between(code, BLANK)
     head = read_class(words[0]) if len(words) > 0 else None
     if head is None:
         return None
@@ -149,3 +158,29 @@ def read_call_number(code):
     if len(rest) > 0:
         return None
     return head + (parts, 0 if year is None else year, 0 if copy is None else copy)
+
+
+def digits_of(number):
+    return [ord(digit) for digit in str(number)]
+
+
+def write_class(number):
+    written = list(number[LETTERS]) + digits_of(number[NUMBER])
+    if len(number[FRACTION]) > 0:
+        written.append(FULL_STOP)
+        written.extend(number[FRACTION])
+    return written
+
+
+def write_call_number(number):
+    written = write_class(number)
+    for part in number[PARTS]:
+        written.extend([BLANK, FULL_STOP, part[0]])
+        written.extend(part[1])
+    if number[YEAR] > 0:
+        written.append(BLANK)
+        written.extend(digits_of(number[YEAR]))
+    if number[COPY] > 0:
+        written.extend([BLANK, SMALL_C, FULL_STOP])
+        written.extend(digits_of(number[COPY]))
+    return written

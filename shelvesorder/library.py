@@ -6,6 +6,10 @@ BEGIN = 0
 SHELF = 1
 BOOK = 2
 DROP = 3
+FIND = 4
+TELL = 5
+HELD = 6
+STATE = 7
 
 
 class UnknownCall(ValueError):
@@ -32,18 +36,36 @@ class Reader:
         return row
 
 
-def answer_call(shelves, reader):
-    call = reader.take_number()
+def answer_change(shelves, call, reader):
     if call == BEGIN:
-        return [shelves.begin()]
+        return shelves.begin()
     if call == SHELF:
-        return [shelves.add_shelf(reader.take_number())]
+        return shelves.add_shelf(reader.take_number())
     if call == BOOK:
         wide = reader.take_number()
-        return [shelves.put_book(wide, reader.take_row())]
-    if call == DROP:
-        return [shelves.drop_book(reader.take_row())]
-    raise UnknownCall("no such call")
+        return shelves.put_book(wide, reader.take_row())
+    return shelves.drop_book(reader.take_row())
+
+
+def answer_question(shelves, call, reader):
+    if call == FIND:
+        return shelves.find_book(reader.take_row())
+    if call == TELL:
+        shelf = reader.take_number()
+        return shelves.tell_shelf(shelf, reader.take_number())
+    if call == HELD:
+        shelf = reader.take_number()
+        return shelves.hold_shelf(shelf, reader.take_row())
+    return shelves.tell_state()
+
+
+def answer_call(shelves, reader):
+    call = reader.take_number()
+    if call < BEGIN or call > STATE:
+        raise UnknownCall("no such call")
+    if call <= DROP:
+        return [answer_change(shelves, call, reader)]
+    return answer_question(shelves, call, reader)
 
 
 def answers(calls):

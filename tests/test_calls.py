@@ -1,16 +1,29 @@
-"""begin, shelf, book and drop: what they answer, what they refuse, and what's kept of it."""
+"""The interface; begin, shelf, book and drop: what they answer, what they refuse, and what's kept of it."""
 
 import unittest
 
 from shelvesorder.library import answers
-from tests.helper import ask, begin, book, drop, last, shelf
+from tests.helper import ask, begin, book, drop, find, held, joined, last, shelf, state, tell
 
 NO_NUMBER = "no call number"
 GREATEST = 4294967295
 
 
-def joined(*calls):
-    return [number for call in calls for number in call]
+class Untouched(list):
+    """A list that can't be changed, not for a while either."""
+
+    def refuse(self, *args, **kwargs):
+        raise AssertionError("what is handed in is changed")
+
+    append = extend = insert = pop = remove = clear = sort = reverse = refuse
+    __setitem__ = __delitem__ = __iadd__ = __imul__ = refuse
+
+
+ALL_EIGHT = joined(
+    shelf(10), shelf(9), book(5, " a1  b2 "), book(5, "A1 .B2"), book(6, "C3"), find("a1 b2"), find("A2"),
+    tell(0), tell(0, 3), tell(2), held(0, "C3\n\nA1 b2"), held(0, "C3\n?"), held(1, ""), held(2, ""), state(),
+    drop("a1 b2"), state(), begin(), state(),
+)
 
 
 def many_books(count, wide=1):
@@ -23,15 +36,17 @@ class Interface(unittest.TestCase):
         self.assertEqual(answers(calls), [1, 0, 1, 0, 1, -22, 1, 0, 1, -71, 1, 0, 1, -2])
 
     def test_whole_numbers_in_a_list(self):
-        given = answers(joined(begin(), shelf(10), book(5, "A1"), drop("A1")))
+        given = answers(ALL_EIGHT)
         self.assertIs(type(given), list)
         self.assertEqual({type(number) for number in given}, {int})
 
     def test_what_is_handed_in_stays(self):
-        calls = joined(shelf(10), book(5, " a1  b2 "), book(5, "A1 .B2"), drop("a1 b2"), begin())
-        before = list(calls)
+        calls = list(ALL_EIGHT)
         answers(calls)
-        self.assertEqual(calls, before)
+        self.assertEqual(calls, ALL_EIGHT)
+        untouched = Untouched(ALL_EIGHT)
+        self.assertEqual(answers(untouched), answers(calls))
+        self.assertEqual(list(untouched), ALL_EIGHT)
 
     def test_lists_do_not_know_of_one_another(self):
         calls = joined(shelf(10), book(5, "A1"))
@@ -40,14 +55,27 @@ class Interface(unittest.TestCase):
         self.assertEqual(ask(book(5, "A1")), [-33])
         self.assertEqual(ask(drop("A1")), [-2])
 
+    def test_all_eight_calls(self):
+        text = list(b"A1 .B2\n")
+        expected = [1, 0, 1, 1, 1, 0, 1, -17, 1, 0, 2, 0, 0, 1, -2]
+        expected += [8, 7] + text + [1, -28, 1, -2]
+        expected += [4, 0, 0, 1, 0, 1, -1002, 4, 0, 1, 0, 0, 1, -2]
+        expected += [3, 2, 1, 1, 1, 1, 3, 1, 0, 1, 1, 0, 1, 0]
+        self.assertEqual(answers(ALL_EIGHT), expected)
+        self.assertEqual(answers(ALL_EIGHT), expected)
+
     def test_what_is_given_back_is_not_kept(self):
-        calls = joined(shelf(10))
-        answers(calls).append(7)
-        self.assertEqual(answers(calls), [1, 0])
+        for calls in (joined(shelf(10)), joined(shelf(10), book(1, "A1"), tell(0))):
+            before = list(answers(calls))
+            given = answers(calls)
+            given[-1] = 7
+            given.append(7)
+            self.assertEqual(answers(calls), before)
 
     def test_a_call_that_is_not_there(self):
-        with self.assertRaises(ValueError):
-            answers([8])
+        for call in (8, 9, 255):
+            with self.assertRaises(ValueError):
+                answers([call])
 
 
 class Begin(unittest.TestCase):
